@@ -1,0 +1,101 @@
+"""What several tests use: error checks, odd values, and circuits at random from fixed seeds."""
+
+import random
+import unittest
+
+ODD = [None, True, False, -1, 2, 3, "", "x", "no", (), [], {}, (0,), [0], ((),), [[]], {"x": 1}, b"x", object(), len]
+
+
+class Case(unittest.TestCase):
+    def refuses(self, error, told, call, *args, **more):
+        """The call raises just this error, with these attributes, in sequence."""
+        with self.assertRaises(error) as caught:
+            call(*args, **more)
+        self.assertIs(type(caught.exception), error)
+        names = list(vars(caught.exception))
+        found = [getattr(caught.exception, name) for name in names]
+        self.assertEqual(len(found), len(told))
+        for one, other in zip(found, told):
+            self.assertEqual(one, other)
+            self.assertIs(type(one), type(other))
+        return caught.exception
+
+    def refuses_value(self, error, value, call, *args, **more):
+        """The call raises this error with this very value."""
+        with self.assertRaises(error) as caught:
+            call(*args, **more)
+        self.assertIs(type(caught.exception), error)
+        self.assertIs(caught.exception.value, value)
+
+    def unlike_lists(self, value):
+        """No two lists or dicts within a value are the same object."""
+        met = []
+        todo = [value]
+        while todo:
+            now = todo.pop()
+            if isinstance(now, (list, dict)):
+                self.assertFalse(any(now is one for one in met), "a list that is told twice")
+                met.append(now)
+            if isinstance(now, (list, tuple)):
+                todo.extend(now)
+            if isinstance(now, dict):
+                self.assertEqual(list(now), sorted(now))
+                todo.extend(now.values())
+
+
+WANTS = {"low": 0, "high": 0, "not": 1, "and": 2, "or": 2, "xor": 2, "pick": 3}
+
+
+def random_parts(seed, inputs=3, gates=6, registers=2, outputs=2):
+    """Parts of a circuit: gates read inputs, registers and earlier gates."""
+    chance = random.Random(seed)
+    names = ["x%d" % k for k in range(inputs)]
+    states = ["q%d" % k for k in range(registers)]
+    chance.shuffle(states)
+    known = names + states
+    rows = []
+    labels = ["g%d" % k for k in range(gates)]
+    chance.shuffle(labels)
+    for label in labels:
+        kind = chance.choice([kind for kind in WANTS if known or not WANTS[kind]])
+        rows.append((label, kind, [chance.choice(known) for _ in range(WANTS[kind])]))
+        known = known + [label]
+    delays = [(state, chance.randrange(2), chance.choice(known)) for state in states]
+    ends = [chance.choice(known) for _ in range(outputs)] if known else []
+    chance.shuffle(rows)
+    return names, rows, delays, ends
+
+
+def plain_bit(kind, bits):
+    """What a kind makes of bits, told without a table."""
+    if kind in ("low", "high"):
+        return int(kind == "high")
+    if kind == "not":
+        return 1 - bits[0]
+    if kind == "and":
+        return min(bits)
+    if kind == "or":
+        return max(bits)
+    if kind == "xor":
+        return int(bits[0] != bits[1])
+    return bits[1] if bits[0] == 1 else bits[2]
+
+
+def plain_says(parts, state, letter, stuck=None):
+    """What all wires of a circuit's parts say, gate by gate as often as it takes."""
+    inputs, gates, registers, _ = parts
+    said = dict(zip(inputs, letter))
+    said.update(zip(sorted(name for name, _, _ in registers), state))
+    if stuck is not None:
+        said[stuck[0]] = stuck[1]
+    left = [gate for gate in gates if stuck is None or gate[0] != stuck[0]]
+    while left:
+        ready = [gate for gate in left if all(source in said for source in gate[2])]
+        for name, kind, sources in ready:
+            said[name] = plain_bit(kind, [said[source] for source in sources])
+        left = [gate for gate in left if gate not in ready]
+    return said
+
+
+def plain_next(parts, said):
+    return tuple(said[source] for _, _, source in sorted(parts[2]))
