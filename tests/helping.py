@@ -99,3 +99,52 @@ def plain_says(parts, state, letter, stuck=None):
 
 def plain_next(parts, said):
     return tuple(said[source] for _, _, source in sorted(parts[2]))
+
+
+def letters_of(width):
+    """All letters of a width, by counting."""
+    return [tuple(int(sign) for sign in bin(k)[3:]) for k in range(2 ** width, 2 ** (width + 1))]
+
+
+def naive_least(order, truth):
+    """Rows and root of the least table, from a dict from all letters to bits, by the words of point [22]."""
+    rows = []
+
+    def place_of(ahead):
+        says = [bit for letter, bit in truth.items() if letter[:len(ahead)] == ahead]
+        if len(set(says)) == 1:
+            return says[0]
+        halves = [[bit for letter, bit in truth.items() if letter[:len(ahead) + 1] == ahead + (side,)] for side in (0, 1)]
+        if halves[0] == halves[1]:
+            return place_of(ahead + (0,))
+        low, high = place_of(ahead + (0,)), place_of(ahead + (1,))
+        row = (order[len(ahead)], low, high)
+        if row not in rows:
+            rows.append(row)
+        return rows.index(row) + 2
+
+    truth = dict(sorted(truth.items()))
+    root = place_of(())
+    return rows, root
+
+
+def naive_says(order, rows, root, letter):
+    place = root
+    while place > 1:
+        name, low, high = rows[place - 2]
+        place = [low, high][letter[order.index(name)]]
+    return place
+
+
+def random_rows(seed, order, many):
+    """Rows of a table, seldom least: some twice, some with one place on both sides, some not come to."""
+    chance = random.Random(seed)
+    rows, heights = [], [len(order)] * 2
+    for level in sorted((chance.randrange(len(order)) for _ in range(many if order else 0)), reverse=True):
+        fit = [place for place, height in enumerate(heights) if height > level]
+        rows.append((order[level], chance.choice(fit), chance.choice(fit)))
+        heights.append(level)
+        if chance.random() < 0.2:
+            rows.append(rows[-1])
+            heights.append(level)
+    return rows, chance.randrange(len(rows) + 2) if chance.random() < 0.3 else len(rows) + 1

@@ -249,6 +249,16 @@ class Package:
             once = isinstance(over, (ast.For, ast.comprehension)) and over.iter is node
             if not once and called(over) not in EATERS:
                 self.say("L23", name, node, called(node))
+        if any(
+            isinstance(part, ast.Starred) and not isinstance(part.value, (ast.Name, ast.Attribute))
+            for part in node.args
+        ):
+            self.say("L7", name, node, "a star")
+        if called(node) == "range" and isinstance(node.func, ast.Name):
+            over = above[node]
+            if not isinstance(over, (ast.For, ast.comprehension, ast.Assign, ast.Compare)):
+                if called(over) not in EATERS | {"len", "reversed"}:
+                    self.say("L23", name, node, "a range that is passed on")
         if called(node) in ("any", "all", "sum") and isinstance(node.func, ast.Name):
             if isinstance(node.args[0], ast.GeneratorExp):
                 self.say("L7", name, node, "a generator expression")

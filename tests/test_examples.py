@@ -13,6 +13,54 @@ STAGE_1 = """
 [[(0,), (0,)], [0, 1], {'n': 1, 'q': 0, 'x': 1}]
 """
 
+STAGE_1_MADE = """
+>>> from wirewords.circuits import Circuit
+>>> from wirewords.made import beside, behind, joined, trimmed
+>>> from wirewords.runs import answer, states_along, step, told, values
+>>> flip = Circuit(["x"], [("n", "xor", ["x", "q"])], [("q", 0, "n")], ["n"])
+>>> two = behind(flip, flip)
+>>> [two.inputs(), two.outputs(), two.sources("bn"), answer(two, [(1,), (0,), (0,)]), joined(flip, "x", "q").gates()]
+[['ax'], ['bn'], ['an', 'bq'], [(1,), (0,), (1,)], [('n', 'xor', ['q', 'q'])]]
+"""
+
+STAGE_2 = """
+>>> from wirewords.circuits import Circuit
+>>> from wirewords.tables import Table, every, held, how_many, least_letter, parting, variable
+>>> x, y, z = [variable(["x", "y", "z"], name) for name in ["x", "y", "z"]]
+>>> pick = x & y | ~x & z
+>>> [pick, how_many(pick), least_letter(pick, 1), "y" in held(pick, "x", 0), every(pick, "x") == y & z]
+[Table(['x', 'y', 'z'], [('z', 0, 1), ('y', 0, 1), ('x', 2, 3)], 4), 4, (0, 0, 1), False, True]
+>>> odd = Table(["x", "y", "z"], [("z", 0, 1), ("z", 0, 1), ("y", 3, 3)], 4)
+>>> [odd.is_least(), odd.least() == z, odd == z, parting(odd, pick)]
+[False, True, False, (1, 0, 1)]
+>>> from wirewords.gates import are_equal, fixed, parting_of, table_of, without_copies
+>>> two = Circuit(["x", "y"], [("a", "and", ["x", "y"]), ("b", "and", ["y", "a"]), ("c", "xor", ["a", "b"])], [("q", 0, "b")], ["b", "c"])
+>>> [table_of(two, "b"), are_equal(two, "a", "b"), parting_of(two, "a", "x"), fixed(two)]
+[Table(['x', 'y', 'q'], [('y', 0, 1), ('x', 0, 2)], 3), True, ((0,), (1, 0)), {'c': 0}]
+>>> without_copies(two)
+Circuit(['x', 'y'], [('a', 'and', ['x', 'y']), ('c', 'xor', ['a', 'a'])], [('q', 0, 'a')], ['a', 'c'])
+>>> from wirewords.orders import are_bounds, below, best_order, bounds, many, reordered
+>>> a, b, c, d = [variable(["a", "c", "b", "d"], name) for name in ["a", "b", "c", "d"]]
+>>> pairs = a & b | c & d
+>>> [many(pairs), best_order(pairs), len(reordered(pairs, ["a", "b", "c", "d"])), below(pairs, ["c", "a"], "b"), bounds(x & y)[("x", "y", "z")]]
+[{'a': 1, 'b': 2, 'c': 2, 'd': 1}, ['a', 'b', 'c', 'd'], 4, 2, 2]
+"""
+
+STAGE_3 = """
+>>> from wirewords.settling import is_swing, latch, loss, miss, odd_one, rest, rests, settles, shortest_run
+>>> from wirewords.tangles import Tangle, look
+>>> hold = Tangle(["r", "s"], [("m", "or", ["r", "p"]), ("q", "not", ["m"]), ("n", "or", ["s", "q"]), ("p", "not", ["n"])])
+>>> [hold.names(), hold.wanting((0, 0), (1, 1, 0, 0)), look(hold, (1, 0))[-2:], rest(hold, (1, 0), (0, 0, 0, 0))]
+[['m', 'n', 'p', 'q'], ['m', 'n'], [(1, 0, None, 0), (1, 0, 1, 0)], (1, 0, 1, 0)]
+>>> [settles(hold, (0, 0), (1, 1, 0, 0)), shortest_run(hold, (0, 0), (1, 1, 0, 0)), loss(hold, (0, 0), (1, 1, 0, 0))]
+[False, ['m', 'q'], (['m'], 'q', 'n')]
+>>> [is_swing(hold, (0, 0), (1, 1, 0, 0), ([], list("mnpqmnpq"))), miss(hold, (1, 0), (0, 0, 0, 0))]
+[True, [(1, 0), (1, 1), (0, 0)]]
+>>> loop, gated = Tangle([], [("a", "or", ["a", "n"]), ("n", "not", ["a"])]), Tangle(["d", "e"], [("q", "pick", ["e", "d", "q"])])
+>>> [look(loop, ()), rests(loop), odd_one(gated), latch(gated, (0, 0), (1,))]
+[[(None, None)], {(): (1, 0)}, ((0, 0), (1,)), ([(1,), (0,)], [[0, 1, 0, 0], [1, 1, 1, 0]])]
+"""
+
 
 class ExamplesTest(unittest.TestCase):
     def examples(self, text):
@@ -24,6 +72,13 @@ class ExamplesTest(unittest.TestCase):
 
     def test_stage_1(self):
         self.examples(STAGE_1)
+        self.examples(STAGE_1_MADE)
+
+    def test_stage_2(self):
+        self.examples(STAGE_2)
+
+    def test_stage_3(self):
+        self.examples(STAGE_3)
 
 
 if __name__ == "__main__":

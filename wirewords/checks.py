@@ -9,6 +9,7 @@ from wirewords.errors import (
     InvalidGates,
     InvalidInputs,
     InvalidLetter,
+    InvalidOrder,
     InvalidOutputs,
     InvalidRegisters,
     InvalidState,
@@ -16,6 +17,8 @@ from wirewords.errors import (
     TooMany,
     UnknownWire,
 )
+
+MOST_VARIABLES = 16
 
 
 def check_inputs(inputs):
@@ -83,6 +86,25 @@ def check_outputs(outputs, wires):
     for at, wire in enumerate(outputs):
         if not isinstance(wire, str) or wire not in wires:
             raise InvalidOutputs(at)
+
+
+def is_order(value):
+    """Whether any value is a list of at most sixteen unlike names."""
+    if not is_list(value) or len(value) > MOST_VARIABLES or not all([is_name(name) for name in value]):
+        return False
+    return len(set(value)) == len(value)
+
+
+def check_order(order):
+    """Raise InvalidOrder unless this is an order."""
+    if not is_order(order):
+        raise InvalidOrder(order)
+
+
+def check_order_of(order, names):
+    """Raise InvalidOrder unless this is an order of just these variables."""
+    if not is_order(order) or sorted(order) != sorted(names):
+        raise InvalidOrder(order)
 
 
 def check_number(what, rows, limit):
