@@ -148,3 +148,25 @@ def random_rows(seed, order, many):
             rows.append(rows[-1])
             heights.append(level)
     return rows, chance.randrange(len(rows) + 2) if chance.random() < 0.3 else len(rows) + 1
+
+
+# Each step joins a gate of two wires to what was made so far; behind all of them a table has 155 rows.
+STEPS = [
+    ("or", "or", 4, 12), ("xor", "and", 9, 14), ("and", "and", 2, 13), ("or", "xor", 6, 14), ("xor", "and", 4, 10),
+    ("or", "xor", 3, 0), ("xor", "xor", 9, 3), ("and", "xor", 10, 12), ("xor", "xor", 8, 5),
+]
+
+
+def full_circuit():
+    """A circuit with eight inputs and registers, its gates in sequence; full has 300 rows, the last one 301."""
+    inputs, registers = ["i%d" % k for k in range(8)], ["r%d" % k for k in range(8)]
+    used = sorted({wire for step in STEPS for wire in step[2:]} | {1, 15})
+    names = dict(zip(used, (inputs + registers)[1:]))
+    gates = [("s0", "low", [])]
+    for k, (outer, inner, one, other) in enumerate(STEPS):
+        gates.append(("p%d" % k, inner, [names[one], names[other]]))
+        gates.append(("s%d" % (k + 1), outer, ["s%d" % k, "p%d" % k]))
+    gates += [("p9", "and", [names[15], names[1]]), ("p10", "or", [names[2], names[5]])]
+    gates += [("u", "and", ["s9", "p10"]), ("w", "and", ["p9", "p10"])]
+    gates += [("full", "or", ["u", "w"]), ("t", "and", ["i0", "full"])]
+    return inputs, gates, [(name, 0, "i0") for name in registers], []

@@ -4,7 +4,7 @@ import itertools
 import random
 import unittest
 
-from tests.helping import Case, letters_of, naive_least, plain_says, random_parts
+from tests.helping import Case, full_circuit, letters_of, naive_least, plain_says, random_parts
 from wirewords.circuits import Circuit
 from wirewords.errors import InvalidFault, InvalidOrder, OtherVariables, TooMany, UnknownWire
 from wirewords.gates import (
@@ -110,6 +110,14 @@ class TableOfTest(Case):
         self.assertEqual(len(table_of(far, "r7")), 1)
         self.refuses(TooMany, ["rows", 300], next_tables, far)
         self.assertEqual(len(next_tables(made)), 8)
+
+
+    def test_just_as_many_rows_as_are_let(self):
+        made = Circuit(*full_circuit())
+        self.assertEqual(len(table_of(made, "full")), 300)
+        self.refuses(TooMany, ["rows", 300], table_of, made, "t")
+        self.assertIs(are_equal(made, "full", "full"), True)
+        self.refuses(TooMany, ["rows", 300], fixed, made)
 
 
 class NextTablesTest(Case):

@@ -150,6 +150,11 @@ class JoinedTest(Case):
         for value in NO_WIRES + ("x",):
             self.refuses_value(UnknownWire, value, joined, FLIP, "x", value)
 
+    def test_an_input_that_nothing_reads(self):
+        made = Circuit(["x", "y"])
+        self.refuses(UnknownWire, ["x"], joined, made, "x", "x")
+        self.assertEqual(joined(made, "x", "y"), Circuit(["y"]))
+
     def test_rings(self):
         self.refuses(GateRing, ["n"], joined, FLIP, "x", "n")
         chain = Circuit(["x"], [("c", "not", ["x"]), ("b", "not", ["c"]), ("a", "not", ["b"]), ("z", "not", ["x"])])

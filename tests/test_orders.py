@@ -4,8 +4,10 @@ import itertools
 import random
 import unittest
 
-from tests.helping import Case, letters_of, naive_least, naive_says, random_rows
+from tests.helping import Case, full_circuit, letters_of, naive_least, naive_says, random_rows
+from wirewords.circuits import Circuit
 from wirewords.errors import InvalidNames, InvalidOrder, TooMany, UnknownVariable
+from wirewords.gates import table_of
 from wirewords.orders import are_bounds, below, best_order, bounds, many, reordered
 from wirewords.tables import Table, constant, variable
 
@@ -25,6 +27,20 @@ def tables(most=5, many_of=48):
     for seed in range(many_of):
         order = ["d", "a", "e", "b", "c"][:seed % (most + 1)]
         yield Table(order, *random_rows(seed, order, seed % 10))
+
+
+def thick_tables():
+    """Tables that say bits at random, or pairs and chains, of which unlike orders have unlike numbers of rows."""
+    for seed in range(30):
+        chance = random.Random(seed)
+        order = ["d", "a", "e", "b", "c"][:2 + seed % 4]
+        chance.shuffle(order)
+        yield Table(order, *naive_least(order, {letter: chance.randrange(2) for letter in letters_of(len(order))}))
+        pairs = constant(order, 0)
+        for one, other in zip(order[::2], order[1::2]):
+            pairs = pairs | variable(order, one) & variable(order, other)
+        chance.shuffle(order)
+        yield reordered(pairs, order) if seed % 2 else ~reordered(pairs, order)
 
 
 def naive_reordered(table, order):
@@ -87,6 +103,15 @@ class ReorderedTest(Case):
         self.assertEqual(below(made, firsts + seconds[:7], "b7"), 1)
 
 
+    def test_just_as_many_rows_as_are_let(self):
+        full = table_of(Circuit(*full_circuit()), "full")
+        order = full.order()
+        # the first variable is one on which the table does not hang
+        told = reordered(full, order[1:] + order[:1])
+        self.assertEqual([len(told), told.order()[-1]], [300, "i0"])
+        self.assertEqual(reordered(told, order), full)
+
+
 class ManyTest(Case):
     def test_rows_of_the_least_table(self):
         self.assertEqual(many(PAIRS), {"a": 1, "b": 2, "c": 2, "d": 1})
@@ -127,7 +152,7 @@ class BelowTest(Case):
 
 class BestOrderTest(Case):
     def test_against_all_sequences(self):
-        for made in tables(4):
+        for made in list(tables(4)) + list(thick_tables()):
             sizes = {order: len(reordered(made, order)) for order in itertools.permutations(sorted(made.order()))}
             least = min(sizes.values())
             self.assertEqual(best_order(made), list(min(order for order in sizes if sizes[order] == least)))
@@ -148,7 +173,7 @@ class BestOrderTest(Case):
 
 class BoundsTest(Case):
     def test_the_greatest(self):
-        for made in tables(4):
+        for made in list(tables(4)) + list(thick_tables()):
             names = sorted(made.order())
             told = bounds(made)
             tuples = [each for size in range(len(names) + 1) for each in itertools.combinations(names, size)]

@@ -162,6 +162,15 @@ class SettlesTest(Case):
         self.assertEqual(made.places((), (0, 0, 0), run)[-1], (0, 0, 0))
         self.assertIs(is_swing(made, (), (0, 0, 0), ([], run)), False)
 
+    def test_a_gate_that_turns_within_a_group_and_out_of_it(self):
+        made = Tangle(["i"], [("a", "high", []), ("b", "pick", ["b", "i", "c"]), ("c", "pick", ["c", "i", "b"])])
+        for letter, standing in held_at(made):
+            self.check_papers(made, letter, standing, settles(made, letter, standing))
+        self.assertIsNotNone(swing(made, (0,), (0, 0, 1)))
+        made = random_tangle(151, 1, 5)
+        for letter, standing in held_at(made):
+            self.check_papers(made, letter, standing, settles(made, letter, standing))
+
     def test_what_is_told_is_new(self):
         for call in (swing, two_rests):
             told = call(HOLD, (0, 0), BOTH)
@@ -204,9 +213,23 @@ class IsRanksTest(Case):
                 self.assertIs(is_ranks(made, (), (0, 0, 0), {**good, here: (good[here][0], gate)}), False)
         for lost in good:
             self.assertIs(is_ranks(made, (), (0, 0, 0), {here: good[here] for here in good if here != lost}), False)
+        # a still one with a count above 0
+        self.assertIs(is_ranks(GATED, (1, 1), (0,), {(0,): (7, "q"), (1,): (1, None)}), False)
         # two still ones
         self.assertIs(is_ranks(PAIR, (), (0, 1), {(0, 1): (0, None), (1, 0): (0, None)}), False)
         self.assertIs(is_ranks(PAIR, (), (0, 1), {(0, 1): (0, None)}), True)
+
+    def test_helpers_of_a_group(self):
+        # while a is 1, n turns round; the turns of a and of b lead on
+        turning = Tangle([], [("a", "low", []), ("b", "low", []), ("n", "pick", ["n", "z", "a"]), ("z", "low", [])])
+        good = ranks(turning, (), (1, 1, 0, 0))
+        group = [(1, 1, 0, 0), (1, 1, 1, 0)]
+        self.assertEqual(good[group[0]], good[group[1]])
+        count = good[group[0]][0]
+        for helpers, right in ((("a", "a"), True), (("b", "b"), True), (("a", "b"), False), (("b", "a"), False),
+                               (("n", "n"), False), (("a", "n"), False), (("n", "a"), False)):
+            value = {**good, group[0]: (count, helpers[0]), group[1]: (count, helpers[1])}
+            self.assertIs(is_ranks(turning, (), (1, 1, 0, 0), value), right)
 
     def test_exactly_if_it_settles(self):
         # of all small ranks none is judged right where it does not settle
@@ -231,6 +254,8 @@ class IsSwingTest(Case):
                       ([], [["m"]] + lap[1:]), ([], [None]), ([], {"m": 1}), ("", lap), ([], lap[::-1]), object()):
             self.assertIs(is_swing(HOLD, (0, 0), BOTH, value), False)
         self.assertIs(is_swing(HOLD, (0, 0), BOTH, (lap, lap)), True)
+        # at a still standing no gate wants to turn, but an empty lap is none
+        self.assertIs(is_swing(GATED, (0, 0), (1,), ([], [])), False)
 
     def test_two_rests(self):
         for value in (([], []), (["a"], ["a"]), (["a"], []), ([], ["a"]), [["a"], ["b"]], (["a"],), (["a"], ["b"], []), None,

@@ -2,7 +2,7 @@
 
 import unittest
 
-from tests.helping import Case, letters_of, naive_least, naive_says, random_rows
+from tests.helping import Case, full_circuit, letters_of, naive_least, naive_says, random_rows
 from wirewords.errors import (
     InvalidBit,
     InvalidLetter,
@@ -219,6 +219,20 @@ class OperatorsTest(Case):
         self.assertEqual(even.says((1,) * 15 + (0,)), 1)
         self.assertEqual(len(wide(SIXTEEN[:14])), 254)
         self.refuses(TooMany, ["rows", 300], wide, SIXTEEN)
+
+
+    def test_just_as_many_rows_as_are_let(self):
+        inputs, gates, registers, _ = full_circuit()
+        order = inputs + [row[0] for row in registers]
+        made = {name: variable(order, name) for name in order}
+        made["s0"] = constant(order, 0)
+        for name, kind, (first, second) in gates[1:-1]:
+            rules = {"and": Table.__and__, "or": Table.__or__, "xor": Table.__xor__}
+            made[name] = rules[kind](made[first], made[second])
+        full = made["full"]
+        self.assertEqual([len(full), len(~full), full.least()], [300, 300, full])
+        self.refuses(TooMany, ["rows", 300], lambda: made["i0"] & full)
+        self.refuses(TooMany, ["rows", 300], lambda: ~made["i0"] | full)
 
 
 class VariableTest(Case):

@@ -40,7 +40,7 @@ class Circuit:
         check_number("outputs", outputs, MOST_OUTPUTS)
         self._inputs = tuple(inputs)
         self._gates = tuple([(name, kind, tuple(wires)) for name, kind, wires in sorted(gates)])
-        self._registers = tuple(sorted(registers))
+        self._registers = tuple(sorted([(name, bit, source) for name, bit, source in registers]))
         self._outputs = tuple(outputs)
         self._sources = sources
         self._kinds = {name: "input" for name in inputs}

@@ -65,6 +65,12 @@ def below(table, names, name):
     return how_many_hang(forms, level)
 
 
+def hanging(table, names, forms):
+    """The dict from the variables that are not among some names to how many forms hang on each."""
+    order = table.order()
+    return {name: how_many_hang(forms, order.index(name)) for name in order if name not in names}
+
+
 def below_sets(table):
     """The dict from all sorted tuples of variables to dicts: how many are below of each other one."""
     order = table.order()
@@ -74,10 +80,7 @@ def below_sets(table):
     for name in sorted(order):
         for names in list(forms):
             forms[names + (name,)] = held_each_way(forms[names], order.index(name))
-    return {
-        names: {name: how_many_hang(forms[names], order.index(name)) for name in order if name not in names}
-        for names in forms
-    }
+    return {names: hanging(table, names, forms[names]) for names in forms}
 
 
 def without(names, name):

@@ -56,9 +56,8 @@ def ranks(tangle, letter, standing):
     runs = all_runs(web)
     told = {}
     for here in sorted(web):
-        helper = helper_of(web, tied_with(runs, here)) if web[here] else None
         # What is come to from a group is more than what is come to from any behind it.
-        told[here] = (len(runs[here]) - 1, helper)
+        told[here] = (len(runs[here]) - 1, helper_of(web, tied_with(runs, here)))
     return told
 
 

@@ -52,7 +52,7 @@ class Table:
             raise InvalidPlace(root)
         check_number("rows", rows, MOST_ROWS)
         self._order = tuple(order)
-        self._rows = tuple(rows)
+        self._rows = tuple([(name, low, high) for name, low, high in rows])
         self._root = root
 
     def order(self):
