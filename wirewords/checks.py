@@ -141,7 +141,8 @@ def leads_back(sources, gate):
     met = {}
     todo = [gate]
     while todo:
-        for source in sources[todo.pop()]:
+        here = todo.pop()
+        for source in sources[here]:
             if source == gate:
                 return True
             if source in sources and source not in met:

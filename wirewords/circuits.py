@@ -95,7 +95,8 @@ class Circuit:
         met = {wire: True}
         todo = [wire]
         while todo:
-            for source in self._sources[todo.pop()]:
+            here = todo.pop()
+            for source in self._sources[here]:
                 if source not in met:
                     met[source] = True
                     todo.append(source)
