@@ -62,6 +62,35 @@ STAGE_3 = """
 """
 
 
+STAGE_4 = """
+>>> from wirewords.circuits import Circuit
+>>> flip = Circuit(["x"], [("n", "xor", ["x", "q"])], [("q", 0, "n")], ["n"])
+>>> from wirewords.alike import are_alike, is_need_paper, least, need_paper, parting, rounds, stands_for
+>>> from wirewords.machines import Machine
+>>> from wirewords.states import chained, circuit_of, machine_of
+>>> late = Machine.late(1)
+>>> [late, late.answer([(1,), (0,), (1,)]), len(chained(late, late)), rounds(late)]
+[Machine(1, 1, [[(0, (0,)), (1, (0,))], [(0, (1,)), (1, (1,))]]), [(0,), (1,), (0,)], 4, [[[0, 1]], [[0], [1]], [[0], [1]]]]
+>>> wide = Machine(1, 1, [[(1, (0,)), (2, (0,))], [(1, (0,)), (2, (0,))], [(0, (1,)), (2, (1,))]])
+>>> [are_alike(wide, late), least(wide) == late, parting(wide.begun(2), late), stands_for(late, wide.begun(2))]
+[True, True, [(0,)], 1]
+>>> [are_alike(machine_of(circuit_of(wide)), late), need_paper(late, 3), is_need_paper(late, 2, ([[], [(1,)]], {(0, 1): [(0,)]}))]
+[True, None, True]
+>>> [machine_of(flip), are_alike(machine_of(flip, ("q", 0)), late)]
+[Machine(1, 1, [[(0, (0,)), (1, (1,))], [(1, (1,)), (0, (0,))]]), False]
+"""
+
+STAGE_5 = """
+>>> from wirewords.circuits import Circuit
+>>> from wirewords.maps import breaking_word, kept_table, weakest
+>>> from wirewords.patterns import Pattern
+>>> flip = Circuit(["x"], [("n", "xor", ["x", "q"])], [("q", 0, "n")], ["n"])
+>>> rare = Pattern(1, [{(0,): 0, (1,): 1}, {(0,): 0}])
+>>> [weakest(flip, rare), breaking_word(flip, rare, rare), kept_table(flip, weakest(flip, rare), rare)]
+[Pattern(1, [{(0,): 0, (1,): 1}, {(1,): 0}]), [(1,), (0,)], [((0,), 0, 0), ((1,), 1, 1)]]
+"""
+
+
 class ExamplesTest(unittest.TestCase):
     def examples(self, text):
         test = doctest.DocTestParser().get_doctest(text, {}, "DOC.md", None, 0)
@@ -79,6 +108,12 @@ class ExamplesTest(unittest.TestCase):
 
     def test_stage_3(self):
         self.examples(STAGE_3)
+
+    def test_stage_4(self):
+        self.examples(STAGE_4)
+
+    def test_stage_5(self):
+        self.examples(STAGE_5)
 
 
 if __name__ == "__main__":

@@ -28,6 +28,20 @@ INTERFACE = {
     " are_two_rests(tangle,letter,standing,value) is_steady(tangle,letter,standing) loss(tangle,letter,standing)"
     " is_loss(tangle,letter,standing,value) is_plain(tangle) rests(tangle) odd_one(tangle)"
     " latch(tangle,letter,standing) miss(tangle,letter,standing) is_miss(tangle,letter,standing,value)",
+    "machines": "Machine(width,out_width,rows)",
+    "states": "states_of(circuit,stuck=None) machine_of(circuit,stuck=None) circuit_of(machine) paired(one,other)"
+    " chained(one,other)",
+    "alike": "are_alike(one,other) relation(one,other) is_relation(one,other,value) parting(one,other)"
+    " is_parting(one,other,value) are_circuits_alike(one,other) rounds(machine) parting_states(machine,state,other)"
+    " least(machine) needed(machine) need_paper(machine,number) is_need_paper(machine,number,value)"
+    " stands_for(machine,other)",
+    "patterns": "Pattern(width,goes) lies_within(one,other) fit_alike(one,other) within_table(one,other)"
+    " word_alone(one,other) is_within_table(one,other,value)",
+    "lasting": "can_last(pattern) is_lasting(pattern) lasting_places(pattern) end_ranks(pattern) lasting_part(pattern)"
+    " is_lasting_places(pattern,value) is_end_ranks(pattern,value)",
+    "maps": "keeps(circuit,ahead,behind) kept_table(circuit,ahead,behind) breaking_word(circuit,ahead,behind)"
+    " is_kept_table(circuit,ahead,behind,value) is_breaking_word(circuit,ahead,behind,value) weakest(circuit,behind)"
+    " weakest_table(circuit,behind) is_weakest_table(circuit,behind,pattern,value)",
 }
 METHODS = {
     "circuits.Circuit": "inputs() gates() registers() outputs() wires() first() kind(wire) sources(wire) uses(wire)"
@@ -35,11 +49,21 @@ METHODS = {
     "tables.Table": "order() rows() says(letter) is_least() least()",
     "tangles.Tangle": "inputs() names() gates() standings() dues(letter,standing) wanting(letter,standing)"
     " turned(standing,gate) places(letter,standing,run)",
+    "machines.Machine": "letters() rows() step(state,letter) answer(word) behind(word) come_to() begun(state) trimmed()",
+    "patterns.Pattern": "goes() leads(place) place_of(word) least()",
 }
 SIGNS = {
     "circuits.Circuit": "__len__ __contains__ __eq__ __repr__",
     "tables.Table": "__and__ __or__ __xor__ __invert__ __len__ __contains__ __eq__ __repr__",
     "tangles.Tangle": "__eq__ __repr__",
+    "machines.Machine": "__len__ __eq__ __repr__",
+    "patterns.Pattern": "__and__ __or__ __len__ __contains__ __eq__ __repr__",
+}
+PROPERTIES = {"tables.Table": "root", "machines.Machine": "width out_width", "patterns.Pattern": "width"}
+STATIC = {
+    "tangles.Tangle": "of(circuit)",
+    "machines.Machine": "late(width)",
+    "patterns.Pattern": "any_of(width) of_word(width,word)",
 }
 
 
@@ -78,10 +102,16 @@ class InterfaceTest(unittest.TestCase):
                 self.assertIn(name, vars(class_of(path)))
 
     def test_properties_static_methods_and_values(self):
-        self.assertIsInstance(vars(class_of("tables.Table"))["root"], property)
-        self.assertIsInstance(vars(class_of("tangles.Tangle"))["of"], staticmethod)
-        self.assertEqual(parameters(class_of("tangles.Tangle").of), "circuit")
+        for path, text in PROPERTIES.items():
+            for name in text.split():
+                self.assertIsInstance(vars(class_of(path))[name], property)
+        for path, text in STATIC.items():
+            for told in text.split():
+                name, _, rest = told.partition("(")
+                self.assertIsInstance(vars(class_of(path))[name], staticmethod)
+                self.assertEqual(parameters(getattr(class_of(path), name)), rest[:-1])
         self.assertIsInstance(importlib.import_module("wirewords.bits").KINDS, dict)
+        self.assertEqual(vars(class_of("machines.Machine"))["MOST_STATES"], 64)
 
 
 if __name__ == "__main__":

@@ -78,12 +78,17 @@ def letters(width):
     return all_bits(width)
 
 
-def bit_of(kind, bits):
-    """What a kind makes of bits that are known to be right."""
+def number_of(bits):
+    """Bits read as one number; so the place of a letter among all of its width, sorted."""
     at = 0
     for bit in bits:
         at = 2 * at + bit
-    return MADE[kind][at]
+    return at
+
+
+def bit_of(kind, bits):
+    """What a kind makes of bits that are known to be right."""
+    return MADE[kind][number_of(bits)]
 
 
 def says(kind, bits):

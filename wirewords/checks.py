@@ -2,7 +2,7 @@
 
 from heapq import heappop, heappush
 
-from wirewords.bits import KINDS, is_bit, is_kind, is_letter, is_list, is_name, is_word
+from wirewords.bits import KINDS, is_bit, is_count, is_kind, is_letter, is_list, is_name, is_word
 from wirewords.errors import (
     GateRing,
     InvalidFault,
@@ -13,12 +13,14 @@ from wirewords.errors import (
     InvalidOutputs,
     InvalidRegisters,
     InvalidState,
+    InvalidWidth,
     InvalidWord,
     TooMany,
     UnknownWire,
 )
 
 MOST_VARIABLES = 16
+GREATEST_SMALL_WIDTH = 4
 
 
 def check_inputs(inputs):
@@ -105,6 +107,12 @@ def check_order_of(order, names):
     """Raise InvalidOrder unless this is an order of just these variables."""
     if not is_order(order) or sorted(order) != sorted(names):
         raise InvalidOrder(order)
+
+
+def check_small_width(width):
+    """Raise InvalidWidth unless this is an integer from 0 to 4."""
+    if not is_count(width) or width > GREATEST_SMALL_WIDTH:
+        raise InvalidWidth(width)
 
 
 def check_number(what, rows, limit):
