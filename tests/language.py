@@ -257,7 +257,7 @@ class Package:
         if called(node) == "range" and isinstance(node.func, ast.Name):
             over = above[node]
             if not isinstance(over, (ast.For, ast.comprehension, ast.Assign, ast.Compare)):
-                if called(over) not in EATERS | {"len", "reversed"}:
+                if called(over) not in EATERS | LIBRARY["itertools"] | {"len", "reversed"}:
                     self.say("L23", name, node, "a range that is passed on")
         if called(node) in ("any", "all", "sum") and isinstance(node.func, ast.Name):
             if isinstance(node.args[0], ast.GeneratorExp):

@@ -88,6 +88,39 @@ STAGE_5 = """
 >>> rare = Pattern(1, [{(0,): 0, (1,): 1}, {(0,): 0}])
 >>> [weakest(flip, rare), breaking_word(flip, rare, rare), kept_table(flip, weakest(flip, rare), rare)]
 [Pattern(1, [{(0,): 0, (1,): 1}, {(1,): 0}]), [(1,), (0,)], [((0,), 0, 0), ((1,), 1, 1)]]
+>>> from wirewords.rings import further_word, is_late, promise
+>>> from wirewords.strongest import strongest
+>>> strongest(flip, rare)
+Pattern(1, [{(0,): 0, (1,): 1}, {(1,): 2}, {(0,): 3, (1,): 2}, {(0,): 0}])
+>>> wait = Circuit(["x"], [("n", "not", ["x"])], [("q", 0, "n")], ["q"])
+>>> [is_late(wait), further_word(wait, Pattern.any_of(1), rare), promise(wait, flip, rare, rare)]
+[True, [(0,), (0,), (0,)], None]
+"""
+
+STAGE_6 = """
+>>> from wirewords.circuits import Circuit
+>>> from wirewords.faults import classes, faults, hiding, is_hiding, showing
+>>> from wirewords.menus import fewest_tests, joint_word, least_depth, places_of, tree_against
+>>> both = Circuit(["x", "y"], [("g", "and", ["x", "y"])], [], ["g"])
+>>> flip = Circuit(["x"], [("n", "xor", ["x", "q"])], [("q", 0, "n")], ["n"])
+>>> [faults(both)[:2], classes(both), showing(both, ("x", 1)), hiding(both, ("g", 0), ("x", 0))]
+[[('g', 0), ('g', 1)], [[('g', 0), ('x', 0), ('y', 0)], [('g', 1)], [('x', 1)], [('y', 1)]], [(0, 1)], [((), ())]]
+>>> [showing(flip, ("q", 1)), showing(flip, ("q", 0)), joint_word(flip, [("q", 0), ("q", 1)]), is_hiding(flip, ("q", 0), None, [((0,), (0,))])]
+[[(0,)], [(1,), (0,)], [(1,), (0,)], False]
+>>> menu = [[(0, 0)], [(0, 1)], [(1, 0)], [(1, 1)]]
+>>> [places_of(both, menu, faults(both))[1], fewest_tests(both, menu, faults(both)), tree_against(both, menu, faults(both), 3)]
+[[0, 1, 2], [1, 2, 3], None]
+>>> least_depth(both, menu, [None, ("g", 0), ("g", 1)])
+2
+"""
+
+STAGE_7 = """
+>>> from wirewords.wirings import Wiring, answer_of, beat_of, slowest_way
+>>> slow = Wiring(["x"], {"a": ("not", 3, [("x", (0, 1))]), "b": ("not", 4, [("a", ())])}, [("b", ())])
+>>> [beat_of(slow), slowest_way(slow)]
+[7, ('a', 'b')]
+>>> answer_of(slow, [(1,), (1,), (0,)])
+[(0,), (1,), (1,)]
 """
 
 
@@ -114,6 +147,12 @@ class ExamplesTest(unittest.TestCase):
 
     def test_stage_5(self):
         self.examples(STAGE_5)
+
+    def test_stage_6(self):
+        self.examples(STAGE_6)
+
+    def test_stage_7(self):
+        self.examples(STAGE_7)
 
 
 if __name__ == "__main__":

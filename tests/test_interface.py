@@ -42,6 +42,23 @@ INTERFACE = {
     "maps": "keeps(circuit,ahead,behind) kept_table(circuit,ahead,behind) breaking_word(circuit,ahead,behind)"
     " is_kept_table(circuit,ahead,behind,value) is_breaking_word(circuit,ahead,behind,value) weakest(circuit,behind)"
     " weakest_table(circuit,behind) is_weakest_table(circuit,behind,pattern,value)",
+    "strongest": "strongest(circuit,ahead) strongest_table(circuit,ahead) is_strongest_table(circuit,ahead,pattern,value)",
+    "rings": "is_late(circuit) keeps_further(circuit,ahead,behind) further_table(circuit,ahead,behind)"
+    " further_word(circuit,ahead,behind) is_further_table(circuit,ahead,behind,value)"
+    " is_further_word(circuit,ahead,behind,value) ring(late,other) promise(late,other,ahead,behind)"
+    " is_promise(late,other,ahead,behind,value) player(pattern,word,width) spoiler(circuit,ahead,behind)"
+    " is_spoiler(circuit,ahead,behind,value)",
+    "faults": "faults(circuit) shows_at(circuit,word,fault,other=None) showing(circuit,fault,other=None)"
+    " hiding(circuit,fault,other=None) is_hiding(circuit,fault,other,value) hidden(circuit) classes(circuit)",
+    "menus": "places_of(circuit,menu,some) is_cover(circuit,menu,some,value) fewest_tests(circuit,menu,some)"
+    " tree_against(circuit,menu,some,number) is_tree_against(circuit,menu,some,number,value)"
+    " telling_tree(circuit,menu,suspects) is_telling_tree(circuit,menu,suspects,value)"
+    " least_depth(circuit,menu,suspects) stubborn(circuit,menu,suspects,number)"
+    " is_stubborn(circuit,menu,suspects,number,value) joint_word(circuit,some) joint_paper(circuit,some)"
+    " is_joint_paper(circuit,some,value)",
+    "wirings": "Wiring(inputs,gates,outputs) answer_of(wiring,word) can_go(wiring,gate) gone(wiring,gate)"
+    " circuit_of(wiring) beat_of(wiring) slowest_way(wiring) is_way(wiring,value) registers_on(wiring,way)"
+    " delay_of(wiring,way)",
 }
 METHODS = {
     "circuits.Circuit": "inputs() gates() registers() outputs() wires() first() kind(wire) sources(wire) uses(wire)"
@@ -51,6 +68,7 @@ METHODS = {
     " turned(standing,gate) places(letter,standing,run)",
     "machines.Machine": "letters() rows() step(state,letter) answer(word) behind(word) come_to() begun(state) trimmed()",
     "patterns.Pattern": "goes() leads(place) place_of(word) least()",
+    "wirings.Wiring": "inputs() outputs() gates() sources(gate) uses(wire)",
 }
 SIGNS = {
     "circuits.Circuit": "__len__ __contains__ __eq__ __repr__",
@@ -58,8 +76,14 @@ SIGNS = {
     "tangles.Tangle": "__eq__ __repr__",
     "machines.Machine": "__len__ __eq__ __repr__",
     "patterns.Pattern": "__and__ __or__ __len__ __contains__ __eq__ __repr__",
+    "wirings.Wiring": "__len__ __contains__ __eq__ __repr__",
 }
-PROPERTIES = {"tables.Table": "root", "machines.Machine": "width out_width", "patterns.Pattern": "width"}
+PROPERTIES = {
+    "tables.Table": "root",
+    "machines.Machine": "width out_width",
+    "patterns.Pattern": "width",
+    "wirings.Wiring": "bits",
+}
 STATIC = {
     "tangles.Tangle": "of(circuit)",
     "machines.Machine": "late(width)",

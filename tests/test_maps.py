@@ -114,7 +114,7 @@ class KeepsTest(Case):
     def test_any_word(self):
         for value in ([(1,), (0,)], ((1,), (0,)), [(1,), (0,), (0,)], [(0,), (1,), (0,)]):
             self.assertIs(is_breaking_word(circuit=FLIP, ahead=RARE, behind=RARE, value=value), True)
-        for value in (None, 5, True, "10", {}, [], (), [(1,)], [(1,), (1,)], [(1,), (1,), (0,)], [(0,), (0,)], [(1,), (False,)], [(True,), (0,)],
+        for value in (None, 5, True, "10", {}, [], (), [(1,)], [(1,), (1,)], [(1,), (1,), (0,)], [(1,), (1,), (1,), (0,)], [(0,), (0,)], [(1,), (False,)], [(True,), (0,)],
                       [[1], [0]], [(1,), (2,)], [(1,), ()], [(1,), None], {(1,): 1, (0,): 1}, object(), RARE):
             self.assertIs(is_breaking_word(FLIP, RARE, RARE, value), False)
 
@@ -232,7 +232,7 @@ class WrongTest(Case):
             self.refuses(OtherWidth, [1, 5], call, Circuit(list("abcde"), [], [], ["a"] * 5), ANY)
             self.refuses(TooMany, ["inputs", 4], call, counter(7, 5), ANY)
             self.refuses(TooMany, ["states", 64], call, counter(7), ANY)
-        self.refuses(OtherWidth, [2, 1], is_weakest_table, FLIP, two, two, None)
+        self.refuses(OtherWidth, [3, 1], is_weakest_table, FLIP, Pattern.any_of(3), two, None)
         self.refuses(OtherWidth, [2, 1], is_weakest_table, FLIP, ANY, two, None)
         self.refuses(TooMany, ["states", 64], is_weakest_table, counter(7), ANY, ANY, None)
         self.assertEqual(letters_of(0), [()])

@@ -159,13 +159,21 @@ def leads_back(sources, gate):
     return False
 
 
-def check_no_ring(sources):
-    """Raise GateRing with the least gate that stands on a ring; sources is a dict from gates."""
+def gate_on_ring(sources):
+    """The least gate of a dict to their sources that stands on a ring; None."""
     placed = {gate: True for gate in sequence_of(sources)}
     left = {gate: sources[gate] for gate in sorted(sources) if gate not in placed}
     for gate in left:
         if leads_back(left, gate):
-            raise GateRing(gate)
+            return gate
+    return None
+
+
+def check_no_ring(sources):
+    """Raise GateRing with the least gate that stands on a ring; sources is a dict from gates."""
+    gate = gate_on_ring(sources)
+    if gate is not None:
+        raise GateRing(gate)
 
 
 def check_wire(circuit, wire):

@@ -1,6 +1,6 @@
 """Circuits between patterns: whether they keep them, and the weakest pattern ahead."""
 
-from wirewords.bits import all_bits, is_letter, is_word
+from wirewords.bits import all_bits, is_letter
 from wirewords.errors import OtherWidth
 from wirewords.patterns import is_place, least_pattern
 from wirewords.states import check_limits
@@ -72,9 +72,7 @@ def is_kept_table(circuit, ahead, behind, value):
 def is_breaking_word(circuit, ahead, behind, value):
     """Whether any value is a breaking word."""
     check_between(circuit, ahead, behind)
-    if not is_word(value, ahead.width) or value not in ahead:
-        return False
-    return Steps(circuit).answer(value) not in behind
+    return value in ahead and Steps(circuit).answer(value) not in behind
 
 
 def weakest(circuit, behind):

@@ -66,8 +66,11 @@ class Gatework:
         if half == 0:
             return self.added("high" if bits[0] == 1 else "low", [])
         name = self._variables[-(half.bit_length())]
-        if half == 1:
-            return name if bits == (0, 1) else self.added("not", [name])
+        lows, highs = (0,) * half, (1,) * half
+        if bits == lows + highs:
+            return name
+        if bits == highs + lows:
+            return self.added("not", [name])
         return self.added("pick", [name, self.wire(bits[half:]), self.wire(bits[:half])])
 
 
