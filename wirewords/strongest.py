@@ -98,7 +98,7 @@ def strongest_moves(circuit, ahead, pattern):
 
     def moves(here):
         lot, place = here
-        found = {out: there for out, there in lots(lot)}
+        found = {said: there for said, there in lots(lot)}
         told = []
         for out in outs:
             if out in found and out in ours[place]:

@@ -42,16 +42,19 @@ def depths_of(lot, told):
     seen = {lot: True}
     at = 0
     while at < len(met):
-        for there in [part for answers in told for _, part in parts_of(met[at], answers)]:
+        here = met[at]
+        further = [part for answers in told for _, part in parts_of(here, answers)]
+        for there in further:
             if there not in seen:
                 seen[there] = True
                 met.append(there)
         at += 1
     depths = {}
-    for here in sorted(met, key=len):
-        splits = [parts_of(here, answers) for answers in told]
+    # What a word parts a lot into is shorter, so that it is known first.
+    for each in sorted(met, key=len):
+        splits = [parts_of(each, answers) for answers in told]
         asked = [max([depths[part] for _, part in parts]) for parts in splits if len(parts) > 1]
-        depths[here] = 1 + min(asked) if asked else 0
+        depths[each] = 1 + min(asked) if asked else 0
     return depths
 
 

@@ -172,8 +172,9 @@ def numbered(rows, classes, start):
     numbers = {classes[start]: 0}
     told = []
     while len(told) < len(met):
+        here = firsts[met[len(told)]]
         row = []
-        for goal, out in rows[firsts[met[len(told)]]]:
+        for goal, out in rows[here]:
             number = None if goal is None else classes[goal]
             if number is not None and number not in numbers:
                 numbers[number] = len(met)
