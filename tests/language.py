@@ -200,13 +200,27 @@ class Package:
             ):
                 self.say("L19", name, node, "raise")
             if isinstance(node, ast.ExceptHandler):
-                caught = node.type.id if isinstance(node.type, ast.Name) else ""
-                if caught != "KeyError" and caught not in self.bound["errors"] and caught not in self.bound["refusals"]:
-                    self.say("L19", name, node, "a handler")
+                kinds = node.type.elts if isinstance(node.type, ast.Tuple) else [node.type]
+                for kind in kinds:
+                    caught = kind.id if isinstance(kind, ast.Name) else ""
+                    known = {"KeyError", *self.bound["errors"], *self.bound["refusals"]}
+                    if caught not in known:
+                        self.say("L19", name, node, "a handler")
+            if isinstance(node, ast.Lambda):
+                for each in node.args.defaults:
+                    self.say("L4", name, each, "a default of a lambda")
+            if isinstance(node, ast.Try):
+                self.check_finally(name, node)
             if isinstance(node, ast.Call):
                 self.check_call(name, node, above)
             if isinstance(node, ast.For):
                 self.check_loop(name, node)
+
+    def check_finally(self, name, node):
+        for each in node.finalbody:
+            simple = isinstance(each, ast.Assign) and isinstance(each.value, (ast.Name, ast.Attribute))
+            if not simple or not isinstance(each.targets[0], (ast.Name, ast.Attribute)):
+                self.say("L6", name, each, "what a finally may not have")
 
     def check_function(self, name, node, above):
         if node.end_lineno - node.lineno + 1 > 40:
@@ -340,30 +354,39 @@ class Package:
 
     def check_pure(self):
         """Operators, properties and the like change nothing that they did not create (L5)."""
-        bodies = {}
+        methods = {}
         todo = []
         for name, tree in self.trees.items():
-            for node in tree.body:
-                if isinstance(node, ast.FunctionDef):
-                    bodies.setdefault(node.name, []).append((name, node))
-                if not isinstance(node, ast.ClassDef):
-                    continue
-                for each in node.body:
-                    if isinstance(each, ast.FunctionDef):
-                        key = node.name if each.name == "__init__" else each.name
-                        bodies.setdefault(key, []).append((name, each))
-                        operator = each.name.startswith("__") and each.name not in ("__init__", "__setitem__")
-                        if operator or each.decorator_list and each.decorator_list[0].id == "property":
-                            todo.append(key)
+            for owner in tree.body:
+                for node in owner.body if isinstance(owner, ast.ClassDef) else []:
+                    if isinstance(node, ast.FunctionDef):
+                        methods.setdefault(node.name, []).append((name, node))
+                        operator = node.name.startswith("__") and node.name not in ("__init__", "__setitem__")
+                        if operator or node.decorator_list and node.decorator_list[0].id == "property":
+                            todo.append((name, node))
         met = set()
         while todo:
-            key = todo.pop()
-            if key in met:
+            name, node = todo.pop()
+            if (name, node) in met:
                 continue
-            met.add(key)
-            for name, node in bodies.get(key, []):
-                self.check_unchanging(name, node)
-                todo.extend(called(part) for part in ast.walk(node) if called(part) and called(part) not in METHODS)
+            met.add((name, node))
+            self.check_unchanging(name, node)
+            for part in ast.walk(node):
+                if isinstance(part, ast.Call) and isinstance(part.func, ast.Name):
+                    todo.extend(self.functions_called(name, part.func.id))
+                if isinstance(part, ast.Call) and isinstance(part.func, ast.Attribute):
+                    todo.extend(methods.get(part.func.attr, []))
+
+    def functions_called(self, name, bare):
+        """The function of a file, or the __init__ of a class, that is called by a bare name, with its file."""
+        node = self.bound[name].get(bare, [None])[0]
+        if isinstance(node, ast.ImportFrom) and node.module.startswith("wirewords."):
+            aliases = {alias.asname or alias.name: alias.name for alias in node.names}
+            return self.functions_called(node.module.split(".")[1], aliases[bare])
+        if isinstance(node, ast.FunctionDef):
+            return [(name, node)]
+        body = node.body if isinstance(node, ast.ClassDef) else []
+        return [(name, each) for each in body if isinstance(each, ast.FunctionDef) and each.name == "__init__"]
 
     def check_unchanging(self, name, node):
         fresh = self.fresh_names(node)

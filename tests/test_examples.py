@@ -115,12 +115,43 @@ STAGE_6 = """
 """
 
 STAGE_7 = """
+>>> from wirewords.fewest import bits_by, fewest_bits, is_flow, loss
+>>> from wirewords.lags import greatest_lags, is_ring, least_beat, moved, ring
 >>> from wirewords.wirings import Wiring, answer_of, beat_of, slowest_way
 >>> slow = Wiring(["x"], {"a": ("not", 3, [("x", (0, 1))]), "b": ("not", 4, [("a", ())])}, [("b", ())])
->>> [beat_of(slow), slowest_way(slow)]
-[7, ('a', 'b')]
->>> answer_of(slow, [(1,), (1,), (0,)])
-[(0,), (1,), (1,)]
+>>> fast = moved(slow, {"a": -1, "b": 0})
+>>> [beat_of(slow), slowest_way(slow), least_beat(slow), greatest_lags(slow, 4), beat_of(fast), fast.sources("b")]
+[7, ('a', 'b'), 4, {'a': -1, 'b': 0}, 4, [('a', (1,))]]
+>>> [answer_of(slow, [(1,), (1,), (0,)]), answer_of(fast, [(1,), (1,), (0,)]), ring(slow, 4), is_ring(slow, 3, [("way", ("b",))])]
+[[(0,), (1,), (1,)], [(0,), (1,), (1,)], None, True]
+>>> split = Wiring(["x"], {"a": ("not", 2, [("x", (0,))])}, [("a", ()), ("a", ())])
+>>> [bits_by(split, {"a": -1}), fewest_bits(split, 2), is_flow(split, 2, {("forth", "a"): 1}), loss(split, 2, {("forth", "a"): 1})]
+[2, 1, True, 0]
+"""
+
+STAGE_8 = """
+>>> from wirewords.asked import asking, gap, rows
+>>> from wirewords.machines import Machine
+>>> from wirewords.resets import apart, homing, meeting, reset, where
+>>> from wirewords.trees import depth, is_deep, tree
+>>> late, flip = Machine.late(1), Machine(1, 1, [[(0, (0,)), (1, (0,))], [(1, (0,)), (0, (1,))]])
+>>> [reset(late), apart(late), reset(flip), apart(flip), meeting(late, 0, 1), homing(flip), where(flip, [(1,)], [(1,)])]
+[[(0,)], None, None, [(0, 1)], [(0,)], [(1,)], [0]]
+>>> [tree(flip, [0, 1]), depth(flip, [0, 1]), is_deep(flip, [0, 1], 0, {(0, 1): 1})]
+[('ask', (1,), {(0,): ('is', 0), (1,): ('is', 1)}), 1, True]
+>>> first = ([[]], [[(0,)], [(1,)]])
+>>> [gap(late, first), rows(late, first), asking(late)[0][0][0], asking(late)[0][1] == late]
+[[(1,)], [[[(0,)], [(0,)]]], [[], [(1,)]], True]
+"""
+
+STAGE_9 = """
+>>> from wirewords.circuits import Circuit
+>>> from wirewords.boxes import Frame, put_in
+>>> both = Circuit(["x", "y"], [("g", "and", ["x", "y"])], [], ["g"])
+>>> either = Circuit(["x", "y"], [("g", "or", ["x", "y"])], [], ["g"])
+>>> frame = Frame(Circuit(["p", "q", "h"], [("o", "and", ["h", "p"])], [], ["o"]), ["p", "q"], ["h"])
+>>> put_in(frame, both).gates()
+[('ao', 'and', ['bg', 'ap']), ('bg', 'and', ['ap', 'aq'])]
 """
 
 
@@ -153,6 +184,12 @@ class ExamplesTest(unittest.TestCase):
 
     def test_stage_7(self):
         self.examples(STAGE_7)
+
+    def test_stage_8(self):
+        self.examples(STAGE_8)
+
+    def test_stage_9(self):
+        self.examples(STAGE_9)
 
 
 if __name__ == "__main__":

@@ -59,6 +59,22 @@ INTERFACE = {
     "wirings": "Wiring(inputs,gates,outputs) answer_of(wiring,word) can_go(wiring,gate) gone(wiring,gate)"
     " circuit_of(wiring) beat_of(wiring) slowest_way(wiring) is_way(wiring,value) registers_on(wiring,way)"
     " delay_of(wiring,way)",
+    "lags": "is_lags(wiring,value) is_item(wiring,beat,value) item_told(wiring,beat,item) sequence(wiring,lags)"
+    " moved(wiring,lags) reaches(wiring,beat,lags) greatest_lags(wiring,beat) ring(wiring,beat)"
+    " is_ring(wiring,beat,value) least_beat(wiring)",
+    "fewest": "bits_by(wiring,lags) fewest_bits(wiring,beat) fewest_lags(wiring,beat) flow(wiring,beat)"
+    " is_flow(wiring,beat,value) loss(wiring,beat,counts)",
+    "resets": "led(machine,lot,word) meeting(machine,state,other) apart(machine) is_apart(machine,value) reset(machine)"
+    " any_reset(machine) is_reset(machine,value) homing(machine) any_homing(machine) is_homing(machine,value)"
+    " where(machine,word,answer) began(machine,word,answer)",
+    "trees": "parted(machine,lot,letter) forgets(machine,lot,letter) found_out(machine,tree,state) tree(machine,lot)"
+    " depth(machine,lot) stuck(machine,lot) deep(machine,lot,number) is_tree(machine,lot,value)"
+    " is_stuck(machine,lot,value) is_deep(machine,lot,number,value)",
+    "asked": "rows(machine,table) asked(machine,table) gap(machine,table) guess(machine,table) agree(one,other,words)"
+    " asking(machine)",
+    "boxes": "Frame(circuit,feeds,holes) put_in(frame,box) feeding(frame,box) stands(frame,box)"
+    " alike_within(one,other,pattern) relation_within(one,other,pattern)"
+    " is_relation_within(one,other,pattern,value) parting_within(one,other,pattern)",
 }
 METHODS = {
     "circuits.Circuit": "inputs() gates() registers() outputs() wires() first() kind(wire) sources(wire) uses(wire)"
@@ -69,6 +85,7 @@ METHODS = {
     "machines.Machine": "letters() rows() step(state,letter) answer(word) behind(word) come_to() begun(state) trimmed()",
     "patterns.Pattern": "goes() leads(place) place_of(word) least()",
     "wirings.Wiring": "inputs() outputs() gates() sources(gate) uses(wire)",
+    "boxes.Frame": "feeds() holes()",
 }
 SIGNS = {
     "circuits.Circuit": "__len__ __contains__ __eq__ __repr__",
@@ -77,17 +94,20 @@ SIGNS = {
     "machines.Machine": "__len__ __eq__ __repr__",
     "patterns.Pattern": "__and__ __or__ __len__ __contains__ __eq__ __repr__",
     "wirings.Wiring": "__len__ __contains__ __eq__ __repr__",
+    "boxes.Frame": "__eq__ __repr__",
 }
 PROPERTIES = {
     "tables.Table": "root",
     "machines.Machine": "width out_width",
     "patterns.Pattern": "width",
     "wirings.Wiring": "bits",
+    "boxes.Frame": "circuit",
 }
 STATIC = {
     "tangles.Tangle": "of(circuit)",
     "machines.Machine": "late(width)",
     "patterns.Pattern": "any_of(width) of_word(width,word)",
+    "boxes.Frame": "bare(box)",
 }
 
 

@@ -30,6 +30,10 @@ SENT_BACK = (
     ("L25", "def f(xs):\n    xs.encode()\n"),
     ("L27", "def f(x):\n    return 'a%s'\n"),
     ("L5", "class A:\n    def __and__(self, other):\n        other.rows.append(1)\n        return other\n"),
+    ("L5", "def f(x):\n    x.append(1)\n\n\nclass A:\n    def __len__(self):\n        f(self)\n        return len([])\n"),
+    ("L6", "def f(x):\n    try:\n        return x\n    finally:\n        x.append(1)\n"),
+    ("L4", "def f(x):\n    return lambda y, z=x: y + z\n"),
+    ("L19", "def f():\n    try:\n        f()\n    except (KeyError, TypeError):\n        pass\n"),
     ("L28", "class A:\n    def __len__(self):\n        return 1 + 1\n"),
 )
 

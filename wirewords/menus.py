@@ -1,7 +1,5 @@
 """Menus of words: fewest tests, trees that tell suspects, and words at which faults show together."""
 
-from itertools import combinations
-
 from wirewords.bits import all_bits, is_count, is_letter, is_list, is_word
 from wirewords.checks import is_fault
 from wirewords.errors import InvalidNumber, TooMany
@@ -109,11 +107,12 @@ def is_cover(circuit, menu, some, value):
 def fewest_of(shown, many):
     """The first of the covers with the fewest of so many positions."""
     masks = [mask_of(places) for places in shown]
-    for number in range(many):
-        for picked in combinations(range(many), number):
+    lists = [[]]
+    while True:
+        for picked in lists:
             if covers(masks, picked):
-                return list(picked)
-    return list(range(many))
+                return picked
+        lists = [picked + [at] for picked in lists for at in range(picked[-1] + 1 if picked else 0, many)]
 
 
 def fewest_tests(circuit, menu, some):
