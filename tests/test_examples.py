@@ -147,11 +147,34 @@ STAGE_8 = """
 STAGE_9 = """
 >>> from wirewords.circuits import Circuit
 >>> from wirewords.boxes import Frame, put_in
+>>> from wirewords.feeds import choice, enough_lots, fewest_feeds, may_say, may_stand
 >>> both = Circuit(["x", "y"], [("g", "and", ["x", "y"])], [], ["g"])
 >>> either = Circuit(["x", "y"], [("g", "or", ["x", "y"])], [], ["g"])
 >>> frame = Frame(Circuit(["p", "q", "h"], [("o", "and", ["h", "p"])], [], ["o"]), ["p", "q"], ["h"])
->>> put_in(frame, both).gates()
-[('ao', 'and', ['bg', 'ap']), ('bg', 'and', ['ap', 'aq'])]
+>>> [put_in(frame, both).gates(), may_say(frame, both)[(0, 1)], may_stand(frame, both, either)]
+[[('ao', 'and', ['bg', 'ap']), ('bg', 'and', ['ap', 'aq'])], [(0,), (1,)], False]
+>>> [enough_lots(frame, both), fewest_feeds(frame, both), choice(frame, both, [1])]
+[[[1]], 1, {(0,): (0,), (1,): (1,)}]
+>>> from wirewords.circuits import Circuit
+>>> from wirewords.texts import read, read_word, written, written_word
+>>> flip = Circuit(["x"], [("n", "xor", ["x", "q"])], [("q", 0, "n")], ["n"])
+>>> print(written(flip), end="")
+circuit
+inputs x
+gate n xor x q
+register q 0 n
+outputs n
+>>> [read(written(flip)) == flip, read_word("01 10"), written_word([(1,), (0,)])]
+[True, [(0, 1), (1, 0)], '1 0']
+>>> from wirewords.bench import Bench, tried
+>>> from wirewords.patterns import Pattern
+>>> bench = Bench()
+>>> bench["flip"] = flip
+>>> bench["rare"] = Pattern(1, [{(0,): 0, (1,): 1}, {(0,): 0}])
+>>> [bench.do("make weak weakest flip rare"), bench.note("safe", "keeps", ["flip", "weak", "rare"]), bench.do("answer flip 1 1")]
+['done', 'keeps', '1 0']
+>>> [bench.do("first flip flip q 1"), bench.do("look safe"), bench.do("renew safe"), bench.do("undo"), bench.do("undo"), bench.do("look safe")]
+['done', 'stale', 'breaks', 'renew safe', 'first flip flip q 1', 'holds']
 """
 
 

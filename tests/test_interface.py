@@ -75,6 +75,16 @@ INTERFACE = {
     "boxes": "Frame(circuit,feeds,holes) put_in(frame,box) feeding(frame,box) stands(frame,box)"
     " alike_within(one,other,pattern) relation_within(one,other,pattern)"
     " is_relation_within(one,other,pattern,value) parting_within(one,other,pattern)",
+    "feeds": "may_say(frame,box) may_stand(frame,box,other) clash(frame,box,other) is_enough(frame,box,lot)"
+    " choice(frame,box,lot) conflict(frame,box,lot) is_choice(frame,box,lot,value) is_conflict(frame,box,lot,value)"
+    " enough_lots(frame,box) fewest_feeds(frame,box) fewer_conflicts(frame,box) chosen_box(frame,box,lot)",
+    "hands": "Game(circuit,ours,pattern,early=False) we_keep(game) whole_plan(game) whole_spoiler(game)"
+    " is_plan(game,value) is_spoiler(game,value) count_at(game,node) played(game,plan,word)"
+    " spoiled(game,spoiler,word) planned(game)",
+    "texts": "written(thing) read(text) written_word(word) read_word(text)",
+    "claims": "is_claim(value) is_true(claim) contrary(claim) paper_of(claim) is_paper(claim,value) things_at(word)",
+    "bench": "Bench() tried(bench,action)",
+    "commands": "words_of(command) is_change(command)",
 }
 METHODS = {
     "circuits.Circuit": "inputs() gates() registers() outputs() wires() first() kind(wire) sources(wire) uses(wire)"
@@ -86,6 +96,9 @@ METHODS = {
     "patterns.Pattern": "goes() leads(place) place_of(word) least()",
     "wirings.Wiring": "inputs() outputs() gates() sources(gate) uses(wire)",
     "boxes.Frame": "feeds() holes()",
+    "hands.Game": "ours() theirs() nodes() turned()",
+    "bench.Bench": "names() notes() note(name,word,parts) claim(name) paper(name) look(name) renew(name) drop(name)"
+    " undo() redo() log() do(command) do_all(commands)",
 }
 SIGNS = {
     "circuits.Circuit": "__len__ __contains__ __eq__ __repr__",
@@ -95,6 +108,8 @@ SIGNS = {
     "patterns.Pattern": "__and__ __or__ __len__ __contains__ __eq__ __repr__",
     "wirings.Wiring": "__len__ __contains__ __eq__ __repr__",
     "boxes.Frame": "__eq__ __repr__",
+    "hands.Game": "__eq__",
+    "bench.Bench": "__getitem__ __setitem__ __contains__ __len__",
 }
 PROPERTIES = {
     "tables.Table": "root",
@@ -102,6 +117,7 @@ PROPERTIES = {
     "patterns.Pattern": "width",
     "wirings.Wiring": "bits",
     "boxes.Frame": "circuit",
+    "hands.Game": "circuit pattern early",
 }
 STATIC = {
     "tangles.Tangle": "of(circuit)",
