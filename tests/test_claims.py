@@ -196,7 +196,7 @@ class ClaimTest(Case):
             (("equal", BOTH, "g", "g"), [Table(["y", "x"], [("x", 0, 1), ("y", 0, 2)], 3), Table(["x", "y"], [("y", 0, 1), ("y", 0, 1), ("x", 0, 2)], 4)],
              [Table(["x", "y"], [("x", 0, 1)], 2), Table(["x"], [("x", 0, 1)], 2), None, Table(["x", "z"], [("x", 0, 1)], 2)]),
             (("parted", FLIP, "n", "x"), [((1,), (0,)), ((1,), (1,))], [((0,), (0,)), ((1,), (2,)), ((True,), (0,)), [(1,), (0,)], ((1,), (0,), 0), ((1,),), ((), (0,))]),
-            (("fewer", WIDE, 3), [LATE, Machine(1, 1, LATE.rows()[:2])], [WIDE, LOOP, Machine(1, 2, [[(0, (0, 0)), (0, (0, 0))]]), None, 2]),
+            (("fewer", WIDE, 3), [LATE, Machine(1, 1, LATE.rows()[:2])], [WIDE, LOOP, Machine(1, 2, [[(0, (0, 0)), (0, (0, 0))]]), Machine(0, 1, [[(0, (0,))]]), None, 2]),
             (("swings", TWO, (), (0, 0)), [(["a"], ["b"]), (("b",), ["a"])], [([], []), ([], ["a"]), (["b"], ["b"]), [["a"], ["b"]], (["a"], ["b"], [])]),
             (("swings", RUN, (0,), (1,)), [([], ["n", "n"]), (["n"], ["n", "n"]), ((), ("n", "n"))], [([], ["n"]), ([], []), [[], ["n", "n"]]]),
             (("beyond", RARE, END), [[(1,)], ((1,),), [(0,), (0,)], [(1,), (0,)]], [[], [(0,)], [(1,), (1,)], (1,), None, [(True,)]]),
@@ -214,6 +214,12 @@ class ClaimTest(Case):
                 self.assertIs(is_paper(contrary(claim), value), False)
             for value in wrong:
                 self.assertIs(is_paper(claim, value), False, (claim[0], value))
+
+    def test_tables_of_one_of_two_wires(self):
+        claim = ("equal", FLIP, "n", "x")
+        for wire in ("n", "x"):
+            self.assertIs(is_paper(claim, gates.table_of(FLIP, wire)), False)
+            self.assertIs(is_paper(("equal", FLIP, wire, wire), gates.table_of(FLIP, wire)), True)
 
     def test_a_beat_beyond_24_bits(self):
         # lags reach it although the wiring moved by them would have too many bits
@@ -240,7 +246,7 @@ class ClaimTest(Case):
     def test_no_claims(self):
         flat, five = Pattern.any_of(2), Circuit(list("abcde"), [], [], ["a"])
         wrong = ODD + [
-            (), ("equal",), ["equal", BOTH, "g", "g"], ("equal", BOTH, "g"), ("equal", BOTH, "g", "g", "g"), ("equals", BOTH, "g", "g"), ("equal", SHOWN, "g", "g"),
+            (), (["equal"], BOTH, "g", "g"), ({}, BOTH), (1, BOTH), (None,), ("equal",), ["equal", BOTH, "g", "g"], ("equal", BOTH, "g"), ("equal", BOTH, "g", "g", "g"), ("equals", BOTH, "g", "g"), ("equal", SHOWN, "g", "g"),
             ("equal", BOTH, "z", "g"), ("equal", BOTH, "g", None), ("equal", BOTH, ["g"], "g"), ("equal", BIG, "t", "a"), ("equal", BIG, "t", "i0"),
             ("settles", LATCH, (1,), (0,)), ("settles", LATCH, (1, 1), (2,)), ("settles", FLIP, (1,), (0,)), ("swings", LATCH, (1, 1), None),
             ("alike", LATE, Machine(1, 2, [[(0, (0, 0)), (0, (0, 0))]])), ("alike", LATE, FLIP), ("apart", LATE), ("needs", LATE, 0), ("needs", LATE, True),

@@ -6,6 +6,7 @@ import random
 from tests.helping import ODD, Case, letters_of, random_parts
 from tests.machining import FLIP, RARE, WAIT, counter, naive_place, random_pattern, words_of
 from tests.papers import is_bits, is_int, is_said, some_variants, variants
+from wirewords.boxes import Frame
 from wirewords.circuits import Circuit
 from wirewords.errors import InvalidWord, OtherWidth, TooMany
 from wirewords.hands import (
@@ -141,7 +142,7 @@ class GameTest(Case):
         circuit = Circuit(["x", "y"], [], [], ["x"])
         game = Game(circuit, ["x", "y"], RARE)
         self.assertIs(game == Game(Circuit(["x", "y"], [], [], ["x"]), ("y", "x"), Pattern(1, RARE.goes()), False), True)
-        for other in (Game(circuit, ["x"], RARE), Game(circuit, ["x", "y"], ONES), Game(circuit, ["x", "y"], RARE, True), game.turned(), circuit, None, RARE,
+        for other in (Game(Circuit(["x", "y"], [], [], ["y"]), ["x", "y"], RARE), Frame(circuit, [], []), Game(circuit, ["x"], RARE), Game(circuit, ["x", "y"], ONES), Game(circuit, ["x", "y"], RARE, True), game.turned(), circuit, None, RARE,
                       Game(Circuit(["y", "x"], [], [], ["x"]), ["x", "y"], RARE)):
             self.assertIs(game == other, False)
             self.assertIs(game != other, True)

@@ -261,6 +261,8 @@ class ReachesTest(Case):
         self.assertIs(is_ring(wiring=SLOW, beat=3, value=[("way", ("b",))]), True)
         self.assertIs(is_ring(SLOW, 4, [("way", ("b",))]), False)
         self.assertEqual([least_beat(FREE), greatest_lags(FREE, 4)], [4, {"a": -1, "b": 0}])
+        ones = Wiring(["x"], {"a": ("not", 1, [("x", (0,))]), "b": ("not", 1, [("a", ())])}, [("b", ())])
+        self.assertEqual([least_beat(ones), beat_of(ones), greatest_lags(ones, 1)], [1, 2, {"a": -1, "b": 0}])
 
     def test_rings_of_gates_have_a_mean(self):
         # two gates of 3 and 5 on a ring with one register: no lags reach 7, and a ring of items shows it

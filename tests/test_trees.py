@@ -154,6 +154,7 @@ class TreeTest(Case):
                             self.assertIn(found_out(machine, told, state), lot + [None])
                 else:
                     self.assertEqual([naive_is_stuck(machine, lot, family), is_stuck(machine, lot, family)], [True, True])
+                    self.assertEqual({type(each) for each in family + [family]}, {list})
                     self.assertIs(is_stuck(machine, tuple(lot), tuple(tuple(each) for each in family)), True)
                     self.unlike_lists(family)
                 for number in range(6):
@@ -263,6 +264,10 @@ class JudgedTest(Case):
                       ("ask", [1], right), ("ask", (1,), list(right.items())), ("ask", (True,), right), ("ask", (1,), {(False,): ("is", 0), (1,): ("is", 1)}),
                       ("ask", (1,), {(0,): ("is", False), (1,): ("is", 1)}), ("ask", (1,), {(0,): ["is", 0], (1,): ("is", 1)}), ("is", 0), ("is", [0, 1])):
             self.assertIs(is_tree(FLIP, [0, 1], value), False)
+        # a letter that forgets: one of both would be found out
+        meets = Machine(0, 0, [[(0, ())], [(0, ())]])
+        for state in (0, 1):
+            self.assertIs(is_tree(meets, [0, 1], ("ask", (), {(): ("is", state)})), False)
 
     def test_stuck_families_of_any_value(self):
         seen = {True: 0, False: 0}

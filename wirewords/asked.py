@@ -28,7 +28,7 @@ def is_table(machine, value):
         return False
     if not all([(letter,) in tails for letter in machine.letters()]):
         return False
-    if not all([len(word) == 0 or word[:-1] in words for word in words]):
+    if not all([word[:-1] in words for word in words]):
         return False
     return all([len(tail) == 1 or tail[1:] in tails for tail in tails])
 

@@ -109,15 +109,14 @@ class Bench:
         """Whether a note holds, is stale or is lost."""
         word, parts, paper = self.kept(name)
         claim = claim_about(word, parts, self._now[0])
-        if claim is None or truth_of(claim) is None:
+        if truth_of(claim) is None:
             return "lost"
         return "holds" if judged(claim, paper) else "stale"
 
     def renew(self, name):
         """Tell a note anew of the things as they are."""
         word, parts, _ = self.kept(name)
-        claim = claim_about(word, parts, self._now[0])
-        proof = None if claim is None else proved(claim)
+        proof = proved(claim_about(word, parts, self._now[0]))
         if proof is None:
             raise Lost(name)
         return self.told(f"renew {name}", name, parts, proof)

@@ -118,9 +118,10 @@ def proved(value):
     if truth is None:
         return None
     first = first_word(value[0])
+    word = first if truth else CONTRARY[first]
     told = line_of(first)[1 if truth else 2]
     parts = value[1:]
-    return first if truth else CONTRARY[first], told(*parts)
+    return word, told(*parts)
 
 
 def judged(claim, value):

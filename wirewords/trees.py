@@ -223,8 +223,7 @@ def is_stuck(machine, lot, value):
 
 def is_deep_at(machine, lot, table):
     """Whether the count of a lot in a table is right."""
-    least = table[lot] - 1
-    return least == 0 or are_kept(machine, lot, lambda part: table.get(part, 0) >= least)
+    return are_kept(machine, lot, lambda part: table.get(part, 0) >= table[lot] - 1)
 
 
 def is_deep(machine, lot, number, value):
@@ -235,9 +234,7 @@ def is_deep(machine, lot, number, value):
     if not isinstance(value, dict):
         return False
     for each in value:
-        if not isinstance(each, tuple) or not is_lot(machine, each) or len(each) < 2:
-            return False
-        if not is_count(value[each]) or value[each] == 0:
+        if not is_lot(machine, each) or len(each) < 2 or not is_count(value[each]) or value[each] == 0:
             return False
     if value.get(tuple(lot), 0) <= number:
         return False
